@@ -1,0 +1,1 @@
+"""Twosquares: whole points of the plane as numbers."""
