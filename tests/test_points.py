@@ -1,19 +1,14 @@
-"""Tests of promises 1, 2 and 3 and of the interface's section twosquares/points.py."""
+"""Tests of promises 1, 2 and 3 and of the interface's section twosquares/points.py.
 
-import enum
-import inspect
+What the functions refuse is tested in test_whole.py.
+"""
+
 import unittest
-from collections import namedtuple
 
-from tests.things import (
-    CHANGEABLE, HUGE, LARGE_POINTS, NO_NUMBERS, NO_POINTS, POINTS, SMALL_POINTS, copies,
-)
+from tests.case import Case
+from tests.things import HUGE, LARGE_POINTS, NO_POINTS, Named, POINTS, SMALL_POINTS, Whole
 from twosquares import points
-from twosquares.errors import NoNumber, NoPoint, PointError
 from twosquares.points import is_point, length, mirror, plus, times, turned, upright
-
-OF_ONE_POINT = [length, mirror, turned, upright]
-OF_TWO_POINTS = [plus, times]
 
 # Told turn by turn, so that it does not rest on the program's own arithmetic.
 FOUR_TURNS = [
@@ -26,50 +21,15 @@ FOUR_TURNS = [
     [(HUGE, 0), (0, HUGE), (-HUGE, 0), (0, -HUGE)],
 ]
 
-Named = namedtuple("Named", "across up")
-
-
-class Whole(enum.IntEnum):
-    """Numbers that are ints, of a kind of their own."""
-
-    THREE = 3
-    FOUR = 4
-
-
-class Case(unittest.TestCase):
-
-    def assert_number(self, thing):
-        self.assertIs(type(thing), int)
-
-    def assert_point(self, thing):
-        self.assertIs(type(thing), tuple)
-        self.assertEqual(len(thing), 2)
-        for part in thing:
-            self.assert_number(part)
-
-    def assert_refused(self, kind, call, *handed, **named):
-        # Compared by what was raised, not by assertRaises: it must be this very kind.
-        try:
-            told = call(*handed, **named)
-        except PointError as error:
-            self.assertIs(type(error), kind)
-            self.assertIsInstance(error, ValueError)
-        else:
-            self.fail(f"{call.__name__} answered {type(told)} and refused nothing")
-
 
 class Interface(Case):
 
     def test_names_arguments_and_default_values(self):
-        wanted = {
+        self.assert_interface(points, {
             "is_point": "(thing)", "plus": "(one, other)", "times": "(one, other)",
             "length": "(point)", "mirror": "(point)", "turned": "(point, quarters=1)",
             "upright": "(point)",
-        }
-        for name, arguments in wanted.items():
-            function = getattr(points, name)
-            self.assertEqual(str(inspect.signature(function)), arguments)
-            self.assertEqual(function.__module__, "twosquares.points")
+        })
 
     def test_arguments_by_name(self):
         self.assertIs(is_point(thing=(1, 2)), True)
@@ -108,70 +68,6 @@ class Points(Case):
             self.assert_number(length(point))
             self.assert_point(upright(point)[1])
         self.assertEqual(turned((1, 0), Whole.THREE), (0, -1))
-
-
-class Refusals(Case):
-    """Promise 1: what is no point, or no number, is refused."""
-
-    def test_no_point_alone(self):
-        for function in OF_ONE_POINT:
-            for thing in NO_POINTS:
-                self.assert_refused(NoPoint, function, thing)
-
-    def test_no_point_as_the_first(self):
-        for function in OF_TWO_POINTS:
-            for thing in NO_POINTS:
-                self.assert_refused(NoPoint, function, thing, (1, 2))
-
-    def test_no_point_as_the_second(self):
-        for function in OF_TWO_POINTS:
-            for thing in NO_POINTS:
-                self.assert_refused(NoPoint, function, (1, 2), thing)
-                self.assert_refused(NoPoint, function, (0, 0), thing)
-
-    def test_no_point_as_both(self):
-        for function in OF_TWO_POINTS:
-            for thing in NO_POINTS:
-                self.assert_refused(NoPoint, function, thing, thing)
-
-    def test_no_number_of_quarters(self):
-        for point in [(0, 0), (3, 1), (HUGE, -HUGE)]:
-            for thing in NO_NUMBERS:
-                self.assert_refused(NoNumber, turned, point, thing)
-                self.assert_refused(NoNumber, turned, point, quarters=thing)
-
-    def test_no_point_comes_ahead_of_no_number(self):
-        for thing in NO_POINTS:
-            self.assert_refused(NoPoint, turned, thing, None)
-            self.assert_refused(NoPoint, turned, thing, True)
-        for quarters in NO_NUMBERS:
-            self.assert_refused(NoPoint, turned, [1, 2], quarters)
-
-    def test_no_point_is_refused_whatever_the_quarters(self):
-        for quarters in [0, 1, 4, -1, HUGE]:
-            self.assert_refused(NoPoint, turned, (1, True), quarters)
-
-    def test_what_is_refused_is_not_changed(self):
-        handed = copies(CHANGEABLE)
-        for thing in handed:
-            is_point(thing)
-            for function in OF_ONE_POINT:
-                self.assert_refused(NoPoint, function, thing)
-            for function in OF_TWO_POINTS:
-                self.assert_refused(NoPoint, function, thing, (1, 2))
-                self.assert_refused(NoPoint, function, (1, 2), thing)
-            self.assert_refused(NoNumber, turned, (1, 2), thing)
-        self.assertEqual(handed, CHANGEABLE)
-
-    def test_the_same_question_has_the_same_answer_after_others(self):
-        def ask():
-            return [plus((1, 2), (3, 4)), times((1, 2), (3, 4)), length((1, 2)), mirror((1, 2)),
-                    turned((1, 2)), upright((-1, 2))]
-        first = ask()
-        for point in POINTS:
-            plus(point, (1, 2)), times(point, (1, 2)), turned(point, 3), upright(point)
-        self.assert_refused(NoPoint, plus, (1, 2), None)
-        self.assertEqual(ask(), first)
 
 
 class Arithmetic(Case):

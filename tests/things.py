@@ -1,8 +1,19 @@
 """Things of many kinds that the tests hand in."""
 
 import copy
+import enum
+from collections import namedtuple
 from decimal import Decimal
 from fractions import Fraction
+
+Named = namedtuple("Named", "across up")
+
+
+class Whole(enum.IntEnum):
+    """Numbers that are ints, of a kind of their own."""
+
+    THREE = 3
+    FOUR = 4
 
 
 class Odd:
